@@ -1,0 +1,1 @@
+"""Which pairs of records are looked at, in several passes."""
