@@ -10,10 +10,20 @@ BLOCK = 3
 WINDOW = 4
 DROP = 5
 PAIRS = 6
+OF = 7
+WHY = 8
+KNOWN = 9
+MISSED = 10
+CHEAPEST = 11
+BRINGS = 12
+COUNTS = 13
 
 
-def answer_of_next(desk, reader):
-    call = reader.next_number()
+def changes_something(call):
+    return call in (FIELDS, RECORD, REMOVE, BLOCK, WINDOW, DROP, KNOWN)
+
+
+def answer_of_change(call, desk, reader):
     if call == FIELDS:
         return desk.set_fields(reader.next_number())
     if call == RECORD:
@@ -28,9 +38,34 @@ def answer_of_next(desk, reader):
         return desk.add_window(far, reader.next_number())
     if call == DROP:
         return desk.drop_pass(reader.next_number())
+    record = reader.next_number()
+    return desk.add_known(record, reader.next_number())
+
+
+def answer_of_question(call, desk, reader):
     if call == PAIRS:
         return desk.tell_pairs()
-    raise NotImplementedError(f"call {call}")
+    if call == OF:
+        return desk.tell_pairs_with(reader.next_number())
+    if call == WHY:
+        record = reader.next_number()
+        return desk.tell_passes_at(record, reader.next_number())
+    if call == MISSED:
+        return desk.tell_missed()
+    if call == CHEAPEST:
+        return desk.tell_cheapest()
+    if call == BRINGS:
+        return desk.tell_brought(reader.next_row())
+    if call == COUNTS:
+        return desk.tell_counts()
+    raise ValueError(f"there is no call {call}")
+
+
+def answer_of_next(desk, reader):
+    call = reader.next_number()
+    if changes_something(call):
+        return answer_of_change(call, desk, reader)
+    return answer_of_question(call, desk, reader)
 
 
 def answers(calls):

@@ -64,9 +64,17 @@ class Window:
         return [record for value, record in sorted(standing)]
 
 
-def pairs_of_all(passes, records):
+def together(lists_of_pairs):
     pairs = []
-    for looking in passes:
-        pairs.extend(looking.pairs_looked_at(records))
+    for part in lists_of_pairs:
+        pairs.extend(part)
     # Several passes may look at the same pair; it counts once.
     return sorted(set(pairs))
+
+
+def pairs_of_all(passes, records):
+    return together([looking.pairs_looked_at(records) for looking in passes])
+
+
+def pairs_not_in(pairs, looked_at):
+    return [pair for pair in pairs if pair not in looked_at]

@@ -4,7 +4,8 @@ Each call's method gives back the list of numbers that are answered. What is ref
 before anything is changed, so that all is as it was then.
 """
 
-from pairpass.passes import Block, Window, pairs_of_all
+from pairpass.choices import cheapest_choice
+from pairpass.passes import Block, Window, pair_of, pairs_not_in, pairs_of_all
 
 FIELDS_AT_BEGINNING = 2
 MOST_FIELDS = 5
@@ -18,7 +19,9 @@ MOST_FAR = 13
 
 WRONG = -1
 NOT_THERE = -3
+KNOWN_ALREADY = -4
 FULL = -6
+ONE_IS_MISSED = -7
 
 
 def told(pairs):
@@ -34,8 +37,11 @@ class Desk:
 
     def begin(self, field_count):
         self.field_count = field_count
+        # Numbers are given rising, and a dict keeps the order in which keys came: both rise when walked.
         self.records = {}
         self.passes = {}
+        # Pairs in the order in which they came to be known.
+        self.known = []
         # The last numbers given are kept apart, because no number is given twice.
         self.last_record = 0
         self.last_pass = 0
@@ -73,6 +79,7 @@ class Desk:
         if record not in self.records:
             return [NOT_THERE]
         self.records.pop(record)
+        self.known = [pair for pair in self.known if record not in pair]
         return [len(self.records)]
 
     def add_block(self, many, fields):
@@ -98,5 +105,67 @@ class Desk:
         self.passes.pop(number)
         return [len(self.passes)]
 
+    def refusal_of_pair(self, record, other):
+        if record not in self.records or other not in self.records:
+            return NOT_THERE
+        if record == other:
+            return WRONG
+        return None
+
+    def add_known(self, record, other):
+        refusal = self.refusal_of_pair(record, other)
+        if refusal is not None:
+            return [refusal]
+        pair = pair_of(record, other)
+        if pair in self.known:
+            return [KNOWN_ALREADY]
+        self.known.append(pair)
+        return [len(self.known)]
+
+    def pairs_among(self, records):
+        return pairs_of_all(list(self.passes.values()), records)
+
     def tell_pairs(self):
-        return told(pairs_of_all(list(self.passes.values()), self.records))
+        return told(self.pairs_among(self.records))
+
+    def tell_pairs_with(self, record):
+        if record not in self.records:
+            return [NOT_THERE]
+        pairs = self.pairs_among(self.records)
+        others = [other for other in self.records if pair_of(record, other) in pairs]
+        return [len(others)] + others
+
+    def tell_passes_at(self, record, other):
+        refusal = self.refusal_of_pair(record, other)
+        if refusal is not None:
+            return [refusal]
+        pair = pair_of(record, other)
+        numbers = [number for number, looking in self.passes.items() if pair in looking.pairs_looked_at(self.records)]
+        return [len(numbers)] + numbers
+
+    def tell_missed(self):
+        return told(pairs_not_in(self.known, self.pairs_among(self.records)))
+
+    def tell_cheapest(self):
+        pairs_by_pass = {}
+        for number, looking in self.passes.items():
+            pairs_by_pass[number] = looking.pairs_looked_at(self.records)
+        best = cheapest_choice(pairs_by_pass, self.known)
+        if best is None:
+            return [ONE_IS_MISSED]
+        return best
+
+    def tell_brought(self, values):
+        if not self.fits_fields(values):
+            return [WRONG]
+        # The number such a record would be given: it stands behind all records of as great a value.
+        newcomer = self.last_record + 1
+        records = dict(self.records)
+        records[newcomer] = values
+        pairs = self.pairs_among(records)
+        brought = [pair for pair in pairs if newcomer in pair]
+        return [len(brought)] + told(pairs_not_in(self.pairs_among(self.records), pairs))
+
+    def tell_counts(self):
+        pair_count = len(self.pairs_among(self.records))
+        return [self.field_count, len(self.records), len(self.passes), len(self.known), pair_count]

@@ -31,6 +31,34 @@ def pairs():
     return [6]
 
 
+def of(number):
+    return [7, number]
+
+
+def why(number, other):
+    return [8, number, other]
+
+
+def known(number, other):
+    return [9, number, other]
+
+
+def missed():
+    return [10]
+
+
+def cheapest():
+    return [11]
+
+
+def brings(*values):
+    return [12, len(values), *values]
+
+
+def counts():
+    return [13]
+
+
 def laid(calls):
     return [number for call in calls for number in call]
 
@@ -58,5 +86,5 @@ def last(*calls):
 
 
 def told(*which):
-    """What pairs answers if it tells just these."""
+    """What pairs or missed answers if it tells just these."""
     return [len(which), *laid(which)]

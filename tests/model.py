@@ -33,6 +33,10 @@ def looks(records, one_pass, a, b):
     return window_looks(records, one_pass[1], one_pass[2], a, b)
 
 
+def told(which):
+    return [len(which)] + [number for pair in which for number in pair]
+
+
 class Model:
     def __init__(self):
         self.fields(2)
@@ -43,11 +47,15 @@ class Model:
         self.n = n
         self.records = {}
         self.passes = {}
+        self.ones = []
         self.given = {"record": 0, "pass": 0}
         return [0]
 
+    def wrong(self, values):
+        return len(values) != self.n or any(v > 1000000 for v in values)
+
     def record(self, *values):
-        if len(values) != self.n or any(v > 1000000 for v in values):
+        if self.wrong(values):
             return [-1]
         if len(self.records) == 14:
             return [-6]
@@ -59,6 +67,7 @@ class Model:
         if number not in self.records:
             return [-3]
         del self.records[number]
+        self.ones = [(a, b) for a, b in self.ones if a != number and b != number]
         return [len(self.records)]
 
     def block(self, many, *which):
@@ -86,9 +95,66 @@ class Model:
         del self.passes[number]
         return [len(self.passes)]
 
+    def looked_at(self, numbers):
+        """The pairs that these passes look at."""
+        return [(a, b) for a, b in combinations(sorted(self.records), 2)
+                if any(looks(self.records, self.passes[p], a, b) for p in numbers)]
+
     def pairs(self):
-        found = []
-        for a, b in combinations(sorted(self.records), 2):
-            if any(looks(self.records, p, a, b) for p in self.passes.values()):
-                found.append((a, b))
-        return [len(found)] + [number for pair in found for number in pair]
+        return told(self.looked_at(self.passes))
+
+    def of(self, number):
+        if number not in self.records:
+            return [-3]
+        found = [b if a == number else a for a, b in self.looked_at(self.passes) if number in (a, b)]
+        return [len(found), *sorted(found)]
+
+    def why(self, number, other):
+        if not {number, other} <= set(self.records):
+            return [-3]
+        if number == other:
+            return [-1]
+        found = [p for p in sorted(self.passes) if looks(self.records, self.passes[p], number, other)]
+        return [len(found), *found]
+
+    def known(self, number, other):
+        if not {number, other} <= set(self.records):
+            return [-3]
+        if number == other:
+            return [-1]
+        if {number, other} in [{a, b} for a, b in self.ones]:
+            return [-4]
+        self.ones.append(tuple(sorted((number, other))))
+        return [len(self.ones)]
+
+    def missing(self):
+        found = self.looked_at(self.passes)
+        return [pair for pair in self.ones if pair not in found]
+
+    def missed(self):
+        return told(self.missing())
+
+    def cheapest(self):
+        if self.missing():
+            return [-7]
+        every = [choice for size in range(7) for choice in combinations(sorted(self.passes), size)]
+        found = {choice: self.looked_at(choice) for choice in every}
+        fit = [choice for choice in every if set(self.ones) <= set(found[choice])]
+        few = min(len(found[choice]) for choice in fit)
+        # By size, and within a size by the first number that differs: so combinations come.
+        best = [choice for choice in fit if len(found[choice]) == few][0]
+        return [few, len(best), *best]
+
+    def brings(self, *values):
+        if self.wrong(values):
+            return [-1]
+        now = self.looked_at(self.passes)
+        kept = dict(self.records)
+        come = self.given["record"] + 1
+        self.records[come] = values
+        then = self.looked_at(self.passes)
+        self.records = kept
+        return [len([pair for pair in then if come in pair]), *told([pair for pair in now if pair not in then])]
+
+    def counts(self):
+        return [self.n, len(self.records), len(self.passes), len(self.ones), len(self.looked_at(self.passes))]
